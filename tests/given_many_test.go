@@ -85,15 +85,20 @@ func (s *stepping) add(x impl.Ins) bool {
 	return code == 0
 }
 
+// drawing gives an instruction to put behind those of a list, of which there will be n.
+type drawing func(s *stepping, n int) impl.Ins
+
+func (d *dice) draw(s *stepping, n int) impl.Ins { return d.anyIns(s.p.Regs, n) }
+
 // proto is one with n instructions, in which each fits what those ahead leave; jumps lead, where they can, to where their states are.
-func (d *dice) proto(c impl.Code, head impl.Proto, n int) impl.Proto {
+func (d *dice) proto(c impl.Code, head impl.Proto, n int, draw drawing) impl.Proto {
 	s := &stepping{c: c, p: head, states: []impl.State{plainFirst(head)}}
 	for i, x := range head.Ins { // those that make fns
 		s.p.Ins = head.Ins[:i]
 		s.add(x)
 	}
 	for tries := 0; len(s.p.Ins) < n && tries < 60*n; tries++ {
-		s.add(d.anyIns(head.Regs, n))
+		s.add(draw(s, n))
 	}
 	ret := d.roll(head.Regs)
 	s.p.Ins = append(s.p.Ins, impl.Ins{Op: impl.IList, A: ret}, impl.Ins{Op: impl.IReturn, A: ret})
@@ -139,7 +144,9 @@ func (d *dice) aim(s *stepping, at int) {
 }
 
 // code is one of a few protos; many of them are verified.
-func (d *dice) code() impl.Code {
+func (d *dice) code() impl.Code { return d.codeOf(d.draw) }
+
+func (d *dice) codeOf(draw drawing) impl.Code {
 	c := impl.Code{Protos: make([]impl.Proto, 1+d.roll(3))}
 	for p := range c.Protos {
 		head := &c.Protos[p]
@@ -158,7 +165,7 @@ func (d *dice) code() impl.Code {
 				{Op: impl.IConst, A: 2}, {Op: impl.IBox, A: 0, B: 2}, {Op: impl.IBox, A: 1, B: 2}, {Op: impl.IFn, A: 2, B: p + 1},
 			}
 		}
-		c.Protos[p] = d.proto(c, head, len(head.Ins)+1+d.roll(14))
+		c.Protos[p] = d.proto(c, head, len(head.Ins)+1+d.roll(14), draw)
 	}
 	return c
 }
