@@ -664,13 +664,20 @@ func keyOf(v Value) Valued {
 
 const maxTurns = 1000000000000
 
-// placeOf is the number of the pair for a key, -1 when there is none.
+// placeOf is the number of the pair for a key, -1 when there is none. Keys
+// stand in tables as Key makes them, so that two are Same just when they are
+// equal.
 func placeOf(t Table, k Value) int {
 	key := keyOf(k)
 	if key.Code != 0 {
 		return -1
 	}
-	return slices.IndexFunc(t.Pairs, func(p Pair) bool { return same(p.Key, key.Value) })
+	for i := range t.Pairs {
+		if t.Pairs[i].Key == key.Value {
+			return i
+		}
+	}
+	return -1
 }
 
 func get(t Table, k Value) Value {
@@ -680,13 +687,9 @@ func get(t Table, k Value) Value {
 	return Value{}
 }
 
-func put(t Table, k, v Value) Table {
-	key := keyOf(k)
-	if key.Code != 0 || !valid(v) {
-		return Table{}
-	}
-	at := placeOf(t, k)
-	t.Pairs = slices.Clone(t.Pairs)
+// putAt is a table with a value at what Key has made of a key, whose place is
+// known. It writes into the pairs themselves: a table has its own.
+func putAt(t Table, at int, key, v Value) Table {
 	switch {
 	case at >= 0 && v.Kind == KNil:
 		t.Pairs = slices.Delete(t.Pairs, at, at+1)
@@ -694,7 +697,7 @@ func put(t Table, k, v Value) Table {
 		t.Pairs[at].Val = v
 	case v.Kind != KNil && len(t.Pairs) < MaxPairs && t.Turns < maxTurns:
 		t.Turns++
-		t.Pairs = append(t.Pairs, Pair{Key: key.Value, Val: v, Turn: t.Turns})
+		t.Pairs = append(t.Pairs, Pair{Key: key, Val: v, Turn: t.Turns})
 	}
 	return t
 }

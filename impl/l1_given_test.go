@@ -214,6 +214,16 @@ func TestKeys(t *testing.T) {
 	}
 }
 
+// put is the word Put, on a table that is to stay as it is.
+func put(t Table, k, v Value) Table {
+	key := keyOf(k)
+	if key.Code != 0 || !valid(v) {
+		return Table{}
+	}
+	t.Pairs = slices.Clone(t.Pairs)
+	return putAt(t, placeOf(t, k), key.Value, v)
+}
+
 func ints(keys ...int64) Table {
 	t := Table{}
 	for _, k := range keys {

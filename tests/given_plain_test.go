@@ -382,6 +382,12 @@ func plainSame(a, b impl.State) bool {
 }
 
 func plainVerify(c impl.Code, n int) impl.Fault {
+	_, f := plainStates(c, n)
+	return f
+}
+
+// plainStates is what is known ahead of each instruction that is reached, and the first fault.
+func plainStates(c impl.Code, n int) (map[int]impl.State, impl.Fault) {
 	p := c.Protos[n]
 	states, todo, silent := map[int]impl.State{0: plainFirst(p)}, []int{0}, map[int][]int{}
 	for len(todo) > 0 {
@@ -391,7 +397,7 @@ func plainVerify(c impl.Code, n int) impl.Fault {
 		x, ahead := p.Ins[at], states[at]
 		behind, code := plainStep(c, p, x, ahead)
 		if code != 0 {
-			return impl.Fault{Code: code, Proto: n, At: at}
+			return nil, impl.Fault{Code: code, Proto: n, At: at}
 		}
 		next, nexts := []int{}, []impl.State{}
 		if x.Op != impl.IJump && x.Op != impl.IReturn && x.Op != impl.IThrow {
@@ -405,17 +411,17 @@ func plainVerify(c impl.Code, n int) impl.Fault {
 				states[to] = nexts[i]
 				todo = append(todo, to)
 			} else if !plainSame(old, nexts[i]) {
-				return impl.Fault{Code: 13, Proto: n, At: to}
+				return nil, impl.Fault{Code: 13, Proto: n, At: to}
 			}
 		}
 		silent[at] = plainSilent(x, next)
 	}
 	for at := range p.Ins {
 		if plainLeads(silent, at) {
-			return impl.Fault{Code: 14, Proto: n, At: at}
+			return nil, impl.Fault{Code: 14, Proto: n, At: at}
 		}
 	}
-	return impl.Fault{}
+	return states, impl.Fault{}
 }
 
 func plainSilent(x impl.Ins, next []int) []int {
