@@ -811,6 +811,9 @@ type field interface {
 	fits(regs int) bool
 }
 
+// unused is a field that an instruction has no use for.
+type unused int
+
 // number is a field that names no register.
 type number struct{ x, low, high int }
 
@@ -828,6 +831,8 @@ type result struct{ x, gets int }
 
 // opening is the first of the two registers with which something is begun to be gone through.
 type opening struct{ first int }
+
+func (u unused) fits(int) bool { return u == 0 }
 
 func (n number) fits(int) bool { return within(n.x, n.low, n.high) }
 
@@ -852,6 +857,8 @@ func (o operand) register() int {
 
 func fieldOf(c Code, p Proto, r role, x int) field {
 	switch r {
+	case notUsed:
+		return unused(x)
 	case readsValue:
 		return operand{x, TValue}
 	case readsList:
@@ -900,12 +907,10 @@ func numberOf(c Code, p Proto, r role, x int) number {
 		return number{x, OpAdd, OpGe}
 	case isElement:
 		return number{x, 0, MaxRegs}
-	case isKeep:
-		return number{x, 0, p.Regs}
 	case isTryKeep:
 		return number{x, 0, p.Regs - 2}
 	}
-	return number{x, 0, 0}
+	return number{x, 0, p.Regs} // a keep
 }
 
 // fieldsOf is the fields of an instruction whose Op there is, from A to D.
@@ -1126,7 +1131,8 @@ func (v *verifier) step(at int) Fault {
 	case !guardsFit(ins, ahead.Guards):
 		return Fault{Code: 11, At: at}
 	}
-	behind := State{Types: typesBehind(r.types, fields), Guards: guardsBehind(ins, ahead.Guards)}
+	r.put(fields)
+	behind := State{Types: r.types, Guards: guardsBehind(ins, ahead.Guards)}
 	if !keptStay(keptBelow(ahead.Guards), r.taken, ahead.Types, behind.Types) {
 		return Fault{Code: 12, At: at}
 	}
@@ -1139,7 +1145,7 @@ func (v *verifier) follow(at int, ahead, behind State) Fault {
 	if hasNext(ins) && !v.reach(at+1, behind) {
 		return Fault{Code: 13, At: at + 1}
 	}
-	to := v.goesOnAt(ins)
+	to := goesOnAt(ins)
 	if to < 0 {
 		return Fault{}
 	}
@@ -1150,11 +1156,13 @@ func (v *verifier) follow(at int, ahead, behind State) Fault {
 }
 
 // goesOnAt is the instruction that another one names to go on at, -1 when it names none.
-func (v *verifier) goesOnAt(ins Ins) int {
-	for _, f := range fieldsOf(v.code, v.proto, ins) {
-		if t, ok := f.(target); ok {
-			return t.to
-		}
+func goesOnAt(ins Ins) int {
+	f := forms[ins.Op]
+	switch {
+	case f.a == isTarget:
+		return ins.A
+	case f.b == isTarget:
+		return ins.B
 	}
 	return -1
 }
@@ -1236,18 +1244,16 @@ func upsBoxed(types []int, ups []Up) bool {
 	return true
 }
 
-// typesBehind puts in what an instruction puts in, into the types of which its operands are taken.
-func typesBehind(types []int, fields [4]field) []int {
-	types = slices.Clone(types)
+// put puts in what an instruction puts in, behind its reading.
+func (r *reading) put(fields [4]field) {
 	for _, f := range fields {
 		switch f := f.(type) {
 		case result:
-			types[f.x] = f.gets
+			r.types[f.x] = f.gets
 		case opening:
-			types[f.first], types[f.first+1] = TValue, TValue
+			r.types[f.first], r.types[f.first+1] = TValue, TValue
 		}
 	}
-	return types
 }
 
 // keptBelow is the number of the registers that guards that catch have kept: the greatest of their keeps.
@@ -1280,17 +1286,18 @@ func guardsFit(ins Ins, guards []Guard) bool {
 	return true
 }
 
+// guardsBehind is a list of its own wherever it is another one: states share their lists.
 func guardsBehind(ins Ins, guards []Guard) []Guard {
-	guards = slices.Clone(guards)
 	last := len(guards) - 1
 	switch ins.Op {
 	case ITry:
-		return append(guards, Guard{Try: true, Keep: ins.B, Handler: ins.A})
+		return append(slices.Clip(guards), Guard{Try: true, Keep: ins.B, Handler: ins.A})
 	case IScope:
-		return append(guards, Guard{Keep: ins.A})
+		return append(slices.Clip(guards), Guard{Keep: ins.A})
 	case IEndTry, ILeave:
 		return guards[:last]
 	case IKeep:
+		guards = slices.Clone(guards)
 		guards[last].Keep = ins.A
 	}
 	return guards
@@ -1316,7 +1323,7 @@ func (v *verifier) silentSteps() [][]int {
 		if hasNext(ins) && ins.Op != IEachNext {
 			steps[at] = append(steps[at], at+1)
 		}
-		if to := v.goesOnAt(ins); to >= 0 {
+		if to := goesOnAt(ins); to >= 0 {
 			steps[at] = append(steps[at], to)
 		}
 	}

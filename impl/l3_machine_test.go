@@ -52,7 +52,7 @@ func TestOpenCall(t *testing.T) {
 	c := Code{Protos: []Proto{{}, {Params: 1, Regs: 2}}}
 	self := &slot{kind: SFn, proto: 1}
 	want := Frame{Kind: FCode, Proto: 1, Self: 4, Regs: []Reg{{Type: TValue, Value: yes}, {}}, Limit: -1}
-	if got := openCall(c, 1, self, []Value{yes}).face(placing{nil: -1, self: 4}); !reflect.DeepEqual(got, want) {
+	if got := openCall(c, 1, self, []Value{yes}).face(placing{places: map[*slot]int{nil: -1, self: 4}}); !reflect.DeepEqual(got, want) {
 		t.Errorf("got %+v, want %+v", got, want)
 	}
 }

@@ -181,14 +181,16 @@ func allStates(c impl.Code) []map[int]impl.State {
 	return out
 }
 
-// unsound tells what is wrong with a machine at pace 0 by what chapters 3 and 7 promise of every one; nothing when all is well.
+// unsound tells what is wrong with a machine by what chapters 3, 5 and 7 promise of every one; nothing when all is well.
 func unsound(c impl.Code, in impl.Input, m impl.Machine, states []map[int]impl.State) string {
 	if m.Over {
 		return ""
 	}
 	switch {
-	case len(m.Slots) != m.Births || m.Due != m.Births:
+	case m.Pace == 0 && (len(m.Slots) != m.Births || m.Due != m.Births):
 		return "slots are not counted"
+	case m.Pace > 0 && m.Due > m.Pace || m.Due > m.Births || len(m.Slots) > m.Births:
+		return "what is due"
 	case m.Has && m.Way.Kind != 0 || !m.Has && len(m.Got) != 0:
 		return "something is given and on its way"
 	case m.Rep.Code != 0 || m.Rep.Ticks > in.Ticks || m.Since > m.Rep.Made || m.Read > len(in.Lines):
@@ -196,12 +198,8 @@ func unsound(c impl.Code, in impl.Input, m impl.Machine, states []map[int]impl.S
 	case m.Way.Kind == impl.WayGone && !m.Tasks[m.Cur].Giving:
 		return "a giving up of a task that is not given up"
 	}
-	given := map[int]bool{}
-	for i, s := range m.Slots {
-		if s.Born != i+1 || s.Ver > m.Vers || (s.Kind == impl.STable) != (s.Ver > 0) || s.Ver > 0 && given[s.Ver] {
-			return "a Ver or a Born"
-		}
-		given[s.Ver] = true
+	if problem := unsoundSlots(m); problem != "" {
+		return problem
 	}
 	for i, task := range m.Tasks {
 		if problem := unsoundTask(c, m, i, task, states); problem != "" {
@@ -209,6 +207,26 @@ func unsound(c impl.Code, in impl.Input, m impl.Machine, states []map[int]impl.S
 		}
 	}
 	return unsoundCaches(c, m)
+}
+
+// unsoundSlots asks that no number is given twice, and that things stand in the order of their making where nothing is given back.
+func unsoundSlots(m impl.Machine) string {
+	vers, births, zero := map[int]bool{}, map[int]bool{}, impl.Slot{}
+	for i, s := range m.Slots {
+		if alike(s, zero) {
+			continue
+		}
+		switch {
+		case m.Pace == 0 && s.Born != i+1 || s.Born < 1 || s.Born > m.Births || births[s.Born]:
+			return "a Born"
+		case s.Ver > m.Vers || (s.Kind == impl.STable) != (s.Ver > 0) || s.Ver > 0 && vers[s.Ver]:
+			return "a Ver"
+		case s.Kind == impl.SFree:
+			return "a free slot with something in it"
+		}
+		vers[s.Ver], births[s.Born] = true, true
+	}
+	return ""
 }
 
 func unsoundTask(c impl.Code, m impl.Machine, i int, task impl.Task, states []map[int]impl.State) string {
@@ -223,6 +241,8 @@ func unsoundTask(c impl.Code, m impl.Machine, i int, task impl.Task, states []ma
 		return "the fn of a task"
 	case (task.Waiter >= 0) != (i > 0 && (runs || waits)):
 		return "the waiter of a task"
+	case task.State == impl.RLost && !alike(task, impl.Task{State: impl.RLost, Waiter: -1}):
+		return "a task that is lost"
 	}
 	for j, f := range task.Frames {
 		if f.Kind != impl.FCode {

@@ -13,10 +13,11 @@ import (
 // that Stand answers are held against it.
 
 type mover struct {
-	c  impl.Code
-	q  impl.Quick
-	in impl.Input
-	m  impl.Machine
+	c    impl.Code
+	q    impl.Quick
+	in   impl.Input
+	m    impl.Machine
+	peak int // the greatest number of slots that there were
 }
 
 // Panics: the run is over; something was thrown, and the move is done.
@@ -35,6 +36,9 @@ func (x *mover) move() {
 		return
 	}
 	x.m.Moves++
+	if x.m.Pace > 0 && x.m.Due >= x.m.Pace {
+		plainGiveBack(&x.m)
+	}
 	defer func() {
 		switch p := recover().(type) {
 		case nil, moverStop:
@@ -357,6 +361,7 @@ func (x *mover) born(s impl.Slot) int {
 		}
 	}
 	x.m.Slots = append(x.m.Slots, s)
+	x.peak = max(x.peak, len(x.m.Slots))
 	return len(x.m.Slots) - 1
 }
 

@@ -111,58 +111,54 @@ func TestStandOfWhatIsNotRun(t *testing.T) {
 	}
 }
 
-// A whole machine: a task that waits, one that is done, one that is running inside of a last word, for which the text waits in a collect.
-func TestAWholeMachine(t *testing.T) {
-	c := verified(t, `
-		proto main line 1 regs 6
-		  line 2
-		  fn 0 f; ask 1 @task 0; ask 2 @resume 1; ask 2 @task 0!; ask 0 @giveup 2; drop 2
-		  const 0 7; box 0 0!; table 2; const 3 "last"; fn 4 g; raw 2 3! 4!; table 3; ask 3 @setkind 3! 2
-		  drop 3; scope 5; const 3 @print; list 4; add 4 2; at 3; defer 3! 4!
-		  at 4; const 3 @collect; list 4; call 3 3! 4!; return 3!
-		proto f line 10 params 1 regs 4
-		  try >h 1; at 11; ask 1 @yield; throw 1
-		h:
-		  throw 1
-		proto g line 20 params 1 regs 5 ups l0
-		  fn 1 h; ask 1 @task 1!; ask 1 @resume 1 0; drop 1; list 1; return 1!
-		proto h line 30 params 1 regs 4
-		  const 2 "name"; index 1 0 2!; throw 1`)
-	in := roomy()
-	const n = 65
-	got := impl.Stand(c, in, 0, n)
+// A text with a task that waits, one that is done, and one that is running inside of a last word, for which the text waits in a collect.
+const wholeText = `
+	proto main line 1 regs 6
+	  line 2
+	  fn 0 f; ask 1 @task 0; ask 2 @resume 1; ask 2 @task 0!; ask 0 @giveup 2; drop 2
+	  const 0 7; box 0 0!; table 2; const 3 "last"; fn 4 g; raw 2 3! 4!; table 3; ask 3 @setkind 3! 2
+	  drop 3; scope 5; const 3 @print; list 4; add 4 2; at 3; defer 3! 4!
+	  at 4; const 3 @collect; list 4; call 3 3! 4!; return 3!
+	proto f line 10 params 1 regs 4
+	  try >h 1; at 11; ask 1 @yield; throw 1
+	h:
+	  throw 1
+	proto g line 20 params 1 regs 5 ups l0
+	  fn 1 h; ask 1 @task 1!; ask 1 @resume 1 0; drop 1; list 1; return 1!
+	proto h line 30 params 1 regs 4
+	  const 2 "name"; index 1 0 2!; throw 1`
+
+// wholeMoves is where everything of wholeText stands as wholeMachine tells it.
+const wholeMoves = 65
+
+// wholeMachine is the machine of wholeText when its things, in the order of their making, are in these slots.
+func wholeMachine(slots [6]int) impl.Machine {
 	value := func(v impl.Value) impl.Reg { return impl.Reg{Type: impl.TValue, Value: v} }
-	table := func(n int) impl.Value { return impl.Value{Kind: impl.KTable, Ref: n} }
-	fn := func(n int) impl.Value { return impl.Value{Kind: impl.KFn, Ref: n} }
-	want := impl.Machine{
-		Due: 6, Births: 6, Vers: 3,
-		Slots: []impl.Slot{
-			{Kind: impl.SFn, Born: 1, Proto: 1},
-			{Kind: impl.SBox, Born: 2, Value: number(7)},
-			{Kind: impl.STable, Born: 3, Ver: 2, Of: -1, Table: impl.Table{Pairs: []impl.Pair{{Key: text("last"), Val: fn(3), Turn: 1}}, Turns: 1}},
-			{Kind: impl.SFn, Born: 4, Proto: 2, Ups: []int{1}},
-			{Kind: impl.STable, Born: 5, Ver: 3, Of: 2},
-			{Kind: impl.SFn, Born: 6, Proto: 3},
-		},
+	task := func(n int) impl.Reg { return value(impl.Value{Kind: impl.KTask, Ref: n}) }
+	f, box, kind, g, told, h := slots[0], slots[1], slots[2], slots[3], slots[4], slots[5]
+	table := func(at int) impl.Value { return impl.Value{Kind: impl.KTable, Ref: at} }
+	fn := func(at int) impl.Value { return impl.Value{Kind: impl.KFn, Ref: at} }
+	m := impl.Machine{
+		Due: 6, Births: 6, Vers: 3, Slots: make([]impl.Slot, 6),
 		Caches: []impl.Cache{{}}, Misses: 1,
 		Tasks: []impl.Task{
 			{State: impl.RBusy, Waiter: -1, Frames: []impl.Frame{
 				{Kind: impl.FCode, Self: -1, At: 46, Line: 4, Limit: -1,
-					Regs:   []impl.Reg{{Type: impl.TBox, Box: 1}, value(impl.Value{Kind: impl.KTask, Ref: 1}), value(table(2)), {}, {}, {}},
-					Fences: []impl.Fence{{Keep: 5, Defers: []impl.Kept{{Line: 3, Vals: []impl.Value{{Kind: impl.KBuiltin}, table(2)}}}}}},
-				{Kind: impl.FCollect, Round: true, Step: 1, Vals: []impl.Value{table(4), fn(3)}},
-				{Kind: impl.FCode, Proto: 2, Self: 3, At: 10, Limit: -1, Regs: []impl.Reg{value(table(4)), value(impl.Value{Kind: impl.KTask, Ref: 3}), {}, {}, {}}},
+					Regs:   []impl.Reg{{Type: impl.TBox, Box: box}, task(1), value(table(kind)), {}, {}, {}},
+					Fences: []impl.Fence{{Keep: 5, Defers: []impl.Kept{{Line: 3, Vals: []impl.Value{{Kind: impl.KBuiltin}, table(kind)}}}}}},
+				{Kind: impl.FCollect, Round: true, Step: 1, Vals: []impl.Value{table(told), fn(g)}},
+				{Kind: impl.FCode, Proto: 2, Self: g, At: 10, Limit: -1, Regs: []impl.Reg{value(table(told)), task(3), {}, {}, {}}},
 			}},
 			{State: impl.RWaiting, Waiter: -1, Frames: []impl.Frame{
-				{Kind: impl.FCode, Proto: 1, Self: 0, At: 4, Line: 11, Limit: -1, Regs: []impl.Reg{value(impl.Value{}), {}, {}, {}},
+				{Kind: impl.FCode, Proto: 1, Self: f, At: 4, Line: 11, Limit: -1, Regs: []impl.Reg{value(impl.Value{}), {}, {}, {}},
 					Fences: []impl.Fence{{Try: true, Keep: 1, Handler: 7}}},
 			}},
 			{State: impl.RDone, Waiter: -1},
 			{State: impl.RRunning, Waiter: 0, Frames: []impl.Frame{
-				{Kind: impl.FCode, Proto: 3, Self: 5, At: 2, Limit: -1, Regs: []impl.Reg{value(table(4)), value(impl.Value{}), {}, {}}},
+				{Kind: impl.FCode, Proto: 3, Self: h, At: 2, Limit: -1, Regs: []impl.Reg{value(table(told)), value(impl.Value{}), {}, {}}},
 			}},
 		},
-		Cur: 3, Since: 10, Moves: n,
+		Cur: 3, Since: 10, Moves: wholeMoves,
 		Rep: impl.Report{Ticks: 13, Made: 10, Recs: []impl.Rec{
 			{Kind: impl.RecLine, Line: 2},
 			{Kind: impl.RecTurn, Task: 1, Text: "resume"},
@@ -174,10 +170,22 @@ func TestAWholeMachine(t *testing.T) {
 			{Kind: impl.RecCall, Task: 3, Fn: 3, Line: 30, Text: "h"},
 		}},
 	}
+	m.Slots[f] = impl.Slot{Kind: impl.SFn, Born: 1, Proto: 1}
+	m.Slots[box] = impl.Slot{Kind: impl.SBox, Born: 2, Value: number(7)}
+	m.Slots[kind] = impl.Slot{Kind: impl.STable, Born: 3, Ver: 2, Of: -1, Table: impl.Table{Pairs: []impl.Pair{{Key: text("last"), Val: fn(g), Turn: 1}}, Turns: 1}}
+	m.Slots[g] = impl.Slot{Kind: impl.SFn, Born: 4, Proto: 2, Ups: []int{box}}
+	m.Slots[told] = impl.Slot{Kind: impl.STable, Born: 5, Ver: 3, Of: kind}
+	m.Slots[h] = impl.Slot{Kind: impl.SFn, Born: 6, Proto: 3}
+	return m
+}
+
+func TestAWholeMachine(t *testing.T) {
+	c, in := verified(t, wholeText), roomy()
+	got, want := impl.Stand(c, in, 0, wholeMoves), wholeMachine([6]int{0, 1, 2, 3, 4, 5})
 	if !alike(got, want) {
 		t.Errorf("got\n%s\nwant\n%s", spread(got), spread(want))
 	}
-	wantSecondReading(t, "whole", c, in)
+	wantPaces(t, "whole", c, in)
 }
 
 // spread tells the fields of a machine, one a line.

@@ -149,17 +149,5 @@ func wantMoves(t *testing.T, name, source string, in impl.Input, from int, want 
 			t.Errorf("%s: move %d:\ngot  %s\nwant %s", name, from+i, got[i], lines[i])
 		}
 	}
-	wantSecondReading(t, name, c, in)
-}
-
-// wantSecondReading holds all machines of a run against the second reading of moves.
-func wantSecondReading(t *testing.T, name string, c impl.Code, in impl.Input) {
-	t.Helper()
-	x := newMover(c, in, 0)
-	for n := range impl.Moves(c, in) + 1 {
-		if got := impl.Stand(c, in, 0, n); !alike(got, x.m) {
-			t.Fatalf("%s: move %d:\ngot  %+v\nwant %+v", name, n, got, x.m)
-		}
-		x.move()
-	}
+	wantPaces(t, name, c, in)
 }
