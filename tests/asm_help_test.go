@@ -18,6 +18,8 @@ import (
 //	  binary 2 lt 0! 1      an operation by its name; 0! is register 0, taken
 //	  if 2! >there          an instruction by its label
 //	there:
+//	  name x 2 0 >there     register 2 is named x from instruction 0 up to that label; with no numbers: everywhere
+//	  only x 2              register 2 is named x at the next instruction alone
 //
 // The names of instructions are those of the listing. Several may stand in one line, with ; between them.
 // Two more stand for several instructions, and use the last two registers of the proto, which hold nothing:
@@ -114,10 +116,14 @@ func asmInt(s string) int {
 }
 
 func asmBody(p *impl.Proto, parts []string, names map[string]int) {
-	labels, rest := map[string]int{}, []string{}
+	labels, rest, named := map[string]int{}, []string{}, []string{}
 	for _, part := range asmLonger(p.Regs-2, parts) {
 		if label, ok := strings.CutSuffix(part, ":"); ok && !strings.Contains(label, " ") {
 			labels[label] = len(rest)
+		} else if strings.HasPrefix(part, "name ") {
+			named = append(named, part)
+		} else if only, ok := strings.CutPrefix(part, "only "); ok {
+			named = append(named, fmt.Sprintf("name %s %d %d", only, len(rest), len(rest)+1))
 		} else {
 			rest = append(rest, part)
 		}
@@ -125,6 +131,23 @@ func asmBody(p *impl.Proto, parts []string, names map[string]int) {
 	for _, part := range rest {
 		p.Ins = append(p.Ins, asmIns(p, part, labels, names))
 	}
+	for _, part := range named {
+		p.Named = append(p.Named, asmNamed(strings.Fields(part), labels, len(rest)))
+	}
+}
+
+func asmNamed(words []string, labels map[string]int, count int) impl.Named {
+	n := impl.Named{Name: words[1], Reg: asmInt(words[2]), To: count}
+	for i, w := range words[3:] {
+		at := 0
+		if w[0] == '>' {
+			at = asmName(labels, w[1:])
+		} else {
+			at = asmInt(w)
+		}
+		*[]*int{&n.From, &n.To}[i] = at
+	}
+	return n
 }
 
 // asmLonger writes out what stands for several instructions, with the register r and the next one.
@@ -264,13 +287,16 @@ func toldRecords(r impl.Report) string {
 }
 
 // wantRun holds the report of a run against the records and the end that are
-// wanted, and against plain stepping. The end is "ok VALS..", "error ERROR @ TRACE" or "out".
+// wanted, and against plain stepping, with all views of a short one. The end is "ok VALS..", "error ERROR @ TRACE" or "out".
 func wantRun(t *testing.T, name, source string, in impl.Input, end, records string) impl.Report {
 	t.Helper()
 	c := verified(t, source)
 	rep := ranOf(t, c, in)
 	if plain := plainRun(c, in); !alike(rep, plain) {
 		t.Errorf("%s: got\n%+v\nstepped plainly\n%+v", name, rep, plain)
+	}
+	if len(rep.Recs) <= 30 {
+		wantViews(t, name, everyName(c), in)
 	}
 	if got := toldEnd(rep); got != end {
 		t.Errorf("%s: ends with %q, not %q", name, got, end)

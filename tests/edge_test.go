@@ -322,8 +322,11 @@ func TestManyRecords(t *testing.T) {
 	if rep.Code != 2 || len(rep.Recs) != 100000 || rep.Ticks != 5000 {
 		t.Error("one more:", rep.Code, len(rep.Recs), rep.Ticks)
 	}
-	if want := plainRun(c, roomy()); !alike(rep, want) {
+	if want := plainRun(c, roomy()); !alike(rep, want) || !alike(impl.RunLoom(c, roomy(), 40), want) {
 		t.Error("not as when stepped plainly")
+	}
+	if !impl.LookLoom(c, roomy(), 1, 99999).Ok || impl.LookLoom(c, roomy(), 1, 100000).Ok {
+		t.Error("the last record cannot be looked at, or one behind it can")
 	}
 }
 

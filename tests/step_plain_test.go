@@ -11,7 +11,8 @@ import (
 // A second reading of 4.1 to 4.9: plain stepping of a code, on a store in
 // which nothing is given back. There are no moves and no frames: calls are
 // calls, what is thrown is a panic, and each task is a goroutine of which one
-// runs at a time. The reports of machines are held against it.
+// runs at a time. The reports of machines are held against it, and the views
+// of chapter 6.
 
 type stepTable struct {
 	table impl.Table
@@ -54,6 +55,7 @@ type stepCall struct {
 	regs   []stepReg
 	guards []*stepGuard
 	way    stepWay
+	hidden int // how many of the last registers cannot be seen
 }
 
 // stepWay is how a call is left: "return", "error", "gone"; "" is not at all.
@@ -102,11 +104,25 @@ type stepRun struct {
 	fns         []*stepFn
 	tasks       []*stepTask
 	cur         int
+	looks       bool
+	views       []impl.View // one for each record, when it looks
 }
 
 // plainRun is the report of stepping a verified code plainly on a valid input.
 func plainRun(c impl.Code, in impl.Input) impl.Report {
 	s := &stepRun{c: c, in: in}
+	s.run()
+	return s.rep
+}
+
+// plainViews are the report and what stands at each of its records.
+func plainViews(c impl.Code, in impl.Input) (impl.Report, []impl.View) {
+	s := &stepRun{c: c, in: in, looks: true}
+	s.run()
+	return s.rep, s.views
+}
+
+func (s *stepRun) run() {
 	s.tasks = []*stepTask{{state: "running", waiter: -1, wake: make(chan stepWake)}}
 	s.text()
 	for _, t := range s.tasks[1:] {
@@ -114,7 +130,6 @@ func plainRun(c impl.Code, in impl.Input) impl.Report {
 			t.wake <- stepWake{kill: true}
 		}
 	}
-	return s.rep
 }
 
 func (s *stepRun) text() {
@@ -152,7 +167,36 @@ func (s *stepRun) rec(kind, fn, line int, txt string) {
 		panic(stepOver{})
 	}
 	s.rep.Recs = append(s.rep.Recs, impl.Rec{Kind: kind, Task: s.cur, Fn: fn, Line: line, Text: txt})
+	if s.looks {
+		s.views = append(s.views, s.view())
+	}
 }
+
+// view is what chapter 6 shows of the running task.
+func (s *stepRun) view() impl.View {
+	v := impl.View{Ok: true, Task: s.cur}
+	for _, c := range s.task().calls {
+		v.Calls = append([]impl.Open{{Fn: c.proto, Line: c.line, Vars: c.vars(s.c.Protos[c.proto])}}, v.Calls...)
+	}
+	return v
+}
+
+func (c *stepCall) vars(p impl.Proto) []impl.Shown {
+	var vars []impl.Shown
+	for _, n := range p.Named {
+		seen := n.From <= c.at && c.at < n.To && n.Reg < len(c.regs)-c.hidden
+		switch r := c.regs[n.Reg]; {
+		case seen && r.typ == impl.TValue:
+			vars = append(vars, impl.Shown{Name: n.Name, Text: valText(r.v)})
+		case seen && r.typ == impl.TBox:
+			vars = append(vars, impl.Shown{Name: n.Name, Text: valText(r.box.v)})
+		}
+	}
+	return vars
+}
+
+// hide takes the registers from keep on from sight.
+func (c *stepCall) hide(keep int) { c.hidden = len(c.regs) - keep }
 
 // here is the Fn and the line at hand of the innermost open call.
 func (s *stepRun) here() (int, int) {
@@ -295,6 +339,7 @@ func (s *stepRun) runCall(c *stepCall) []impl.Value {
 		}
 	}
 	c.line = 0
+	c.hide(p.Params)
 	if c.fn.Kind != impl.KNil {
 		back := way.kind
 		if back == "return" {
@@ -338,7 +383,7 @@ func (s *stepRun) leaveCall(c *stepCall, way stepWay) stepWay {
 			if c.way.kind == "error" {
 				way, c.way = c.way, stepWay{}
 				clear(c.regs[g.keep:])
-				c.line, c.at = g.line, g.handler
+				c.line, c.at, c.hidden = g.line, g.handler, 0
 				s.recHere(impl.RecCatch, s.told(way.vals[0]))
 				c.regs[g.keep] = stepReg{typ: impl.TValue, v: way.vals[0]}
 				c.regs[g.keep+1] = stepReg{typ: impl.TValue, v: text(way.trace)}
@@ -347,6 +392,7 @@ func (s *stepRun) leaveCall(c *stepCall, way stepWay) stepWay {
 			continue
 		}
 		clear(c.regs[g.keep:])
+		c.hide(g.keep)
 		s.runDefers(c, g)
 		c.guards = c.guards[:len(c.guards)-1]
 	}
@@ -372,6 +418,7 @@ func (s *stepRun) runDefers(c *stepCall, g *stepGuard) {
 		default:
 			c.way = left
 			clear(c.regs[g.keep:])
+			c.hide(g.keep)
 		}
 	}
 }
